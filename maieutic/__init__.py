@@ -1,0 +1,1 @@
+"""Maieutic: finding out hidden machines by questions."""
