@@ -32,6 +32,7 @@ class Filled(unittest.TestCase):
             kept = copy.deepcopy(known)
             word = table.wanted(known)
             self.assertEqual(word, lacking[0] if lacking else None)
+            self.assertEqual(table.gaps(known), [one for at, one in enumerate(lacking) if one not in lacking[:at]])
             self.assertEqual(known, kept)
             if word is None:
                 return
