@@ -5,13 +5,13 @@ from maieutic.errors import Alike, NotAllowed
 
 def are_alike(first, second):
     """Return True if both machines have the same output behind each word."""
-    _check_kin(first, second)
+    check_kin(first, second)
     return _first_parting(first, second, (0, 0)) is None
 
 
 def first_difference(first, second):
     """Return the first word behind which the outputs of both machines differ."""
-    _check_kin(first, second)
+    check_kin(first, second)
     word = _first_parting(first, second, (0, 0))
     if word is None:
         raise Alike("the machines answer alike")
@@ -29,7 +29,8 @@ def parting_word(machine, state, other):
     return word
 
 
-def _check_kin(first, second):
+def check_kin(first, second):
+    """Raise NotAllowed if the machines have other letters or outs."""
     if first[0] != second[0] or first[1] != second[1]:
         raise NotAllowed("the machines have other letters or outs")
 

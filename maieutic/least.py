@@ -4,16 +4,16 @@
 def classes(machine):
     """Return for each state the least one from which all outputs are the same."""
     moves = machine[2]
-    same = _first_places(machine[3])
+    same = first_places(machine[3])
     while True:
         marks = [(same[state], tuple([same[after] for after in row])) for state, row in enumerate(moves)]
-        finer = _first_places(marks)
+        finer = first_places(marks)
         if finer == same:
             return same
         same = finer
 
 
-def _first_places(marks):
+def first_places(marks):
     """Return for each mark the first index at which there is an equal one."""
     first = {}
     for place, mark in enumerate(marks):

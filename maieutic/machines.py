@@ -70,12 +70,24 @@ def output_after(machine, word):
 def outputs_along(machine, word):
     """Return the outputs behind all beginnings of the word, the shortest one first."""
     check_word(machine, word)
-    state = 0
+    return outputs_from(machine, 0, word)
+
+
+def outputs_from(machine, state, word):
+    """Return the outputs along a word that begins in a state; the word is not checked."""
     along = [machine[3][state]]
     for letter in word:
         state = machine[2][state][letter]
         along.append(machine[3][state])
     return along
+
+
+def words_of(letters, length):
+    """Return all words of a length, as tuples, in the order of words."""
+    words = [()]
+    for _ in range(length):
+        words = [word + (letter,) for word in words for letter in range(letters)]
+    return words
 
 
 def word_order(word):

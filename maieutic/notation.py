@@ -62,10 +62,20 @@ def word_digits(word):
 
 
 def _read_numbers(text):
-    return [_read_number(part) for part in text.split(" ")]
+    return [read_number(part) for part in text.split(" ")]
 
 
-def _read_number(text):
+def read_digits(text):
+    """Return the word whose letters are written as digits without spaces, with a dot if it is empty."""
+    if text == ".":
+        return []
+    if not text or not all(sign in DIGITS for sign in text):
+        raise BadForm("the letters of a word are written as digits")
+    return [int(sign) for sign in text]
+
+
+def read_number(text):
+    """Return the number of one or two digits that has this text."""
     # No number in a text has more than two digits, so longer ones need no reading.
     if not 1 <= len(text) <= 2 or not all(sign in DIGITS for sign in text):
         raise BadForm("a number is written in decimal digits")

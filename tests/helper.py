@@ -65,6 +65,11 @@ def plain_output(machine, word):
     return machine[3][plain_state(machine, word)]
 
 
+def plain_along(machine, word, state=0):
+    """The outputs behind each beginning of the word, if the machine begins in the state."""
+    return [machine[3][plain_state(machine, word[:place], state)] for place in range(len(word) + 1)]
+
+
 def told_apart(first, second):
     """The pairs of states (of both machines) from which some outputs differ, found by going backwards."""
     pairs = list(itertools.product(range(len(first[2])), range(len(second[2]))))
@@ -144,6 +149,26 @@ SHOWERS = (show_first, show_long, show_longest)
 
 def digits(length):
     return len(bin(length)) - 2 if length else 0
+
+
+def samples(numbers, count):
+    """Machines of all sizes: random ones, chains and rings, also with states that are alike or not reached."""
+    for states in (1, 2, 3, 30):
+        yield chain(1, states)
+        yield ring(2, states)
+    for _ in range(count):
+        states = numbers.choice((1, 2, 3, 3, 4, 5, 6, 8, 12, 20, 30))
+        machine = random_machine(numbers, numbers.randrange(1, 5), numbers.choice((1, 2, 2, 2, 3, 6)), states)
+        yield machine
+        yield doubled(numbers, machine) if states <= 15 else shuffled(numbers, machine)
+
+
+def doubled(numbers, machine):
+    """A machine that answers alike and has each state twice; some may not be reached."""
+    letters, outs, moves, outputs = machine
+    count = len(moves)
+    rows = [tuple(after + count * numbers.randrange(2) for after in row) for row in moves + moves]
+    return (letters, outs, tuple(rows), outputs + outputs)
 
 
 class Caller:

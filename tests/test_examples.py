@@ -83,6 +83,55 @@ ASKER = """
 '1 2 5 .=0 0=0 | -00 =0'
 """
 
+APART = """
+>>> from maieutic.apart import ways_to
+>>> ways_to((2, 2, ((0, 2), (0, 0), (2, 0)), (1, 0, 0)))
+[[], None, [1]]
+
+>>> from maieutic.apart import telling_words
+>>> telling_words((1, 1, ((0,),), (0,)))
+[[]]
+"""
+
+SUITE = """
+>>> from maieutic.suite import are_told
+>>> even = (2, 2, ((0, 1), (1, 0)), (1, 0))
+>>> are_told([[0, 1]], even, (2, 2, ((0, 1), (1, 1)), (1, 0)))
+False
+>>> are_told([[1, 1]], even, (2, 2, ((0, 1), (1, 1)), (1, 0)))
+True
+
+>>> from maieutic.suite import suite_words
+>>> suite_words((1, 1, ((0,),), (0,)), 30)
+raises NotAllowed
+"""
+
+BLIND = """
+>>> from maieutic.blind import unused_moves
+>>> unused_moves((2, 2, ((0, 1), (1, 0)), (1, 0)), [[0, 1, 0]])
+[(1, 1)]
+
+>>> from maieutic.blind import blind_machine
+>>> blind_machine((2, 2, ((0, 1), (1, 0)), (1, 0)), [[0, 1, 0]])
+(2, 2, ((0, 1), (1, 1)), (1, 0))
+
+>>> from maieutic.blind import blind_machine
+>>> blind_machine((2, 2, ((0, 1), (1, 0)), (1, 0)), [[0, 1, 0, 1]])
+raises Missing
+"""
+
+HOME = """
+>>> from maieutic.home import homing_word
+>>> homing_word((1, 1, ((0,),), (0,)))
+[]
+
+>>> from maieutic.home import state_at_end
+>>> state_at_end((1, 2, ((1,), (2,), (0,)), (0, 0, 1)), [0], [0, 1])
+2
+>>> state_at_end((1, 2, ((1,), (2,), (0,)), (0, 0, 1)), [0], [1, 1])
+raises Missing
+"""
+
 
 def steps_of(example):
     """The pairs of a line of code and the lines that are printed behind it."""
@@ -139,6 +188,18 @@ class Examples(unittest.TestCase):
 
     def test_asker(self):
         self.run_examples(ASKER)
+
+    def test_apart(self):
+        self.run_examples(APART)
+
+    def test_suite(self):
+        self.run_examples(SUITE)
+
+    def test_blind(self):
+        self.run_examples(BLIND)
+
+    def test_home(self):
+        self.run_examples(HOME)
 
 
 class ReadMe(unittest.TestCase):

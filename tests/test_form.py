@@ -40,6 +40,11 @@ INTERFACE = {
         "PartsAsker.accept": [], "PartsAsker.show": ["word"], "PartsAsker.report": [], "PartsAsker.journal": [],
         "PartsAsker.image": [],
     },
+    "images": {"load_asker": ["text"], "load_parts_asker": ["text"]},
+    "apart": {"ways_to": ["machine"], "telling_words": ["machine"]},
+    "suite": {"are_told": ["words", "first", "second"], "suite_words": ["machine", "extra"]},
+    "blind": {"unused_moves": ["machine", "words"], "blind_machine": ["machine", "words"]},
+    "home": {"homing_word": ["machine"], "state_at_end": ["machine", "word", "outputs"]},
 }
 
 BUILTINS = set("""len range enumerate zip min max sum abs sorted reversed int str bool list tuple dict set
