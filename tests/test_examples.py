@@ -132,6 +132,45 @@ HOME = """
 raises Missing
 """
 
+SECRET = """
+>>> from maieutic.secret import Secret
+>>> box = Secret(2, 2)
+>>> box.left()
+4
+>>> box.reply([0, 1])
+0
+>>> box.possible()
+[[0, 0], [1, 0], [1, 1]]
+>>> box.pair()[0]
+(2, 2, ((1, 2), (3, 2), (2, 2), (2, 2)), (0, 0, 0, 1))
+"""
+
+SMALLEST = """
+>>> from maieutic.smallest import smallest, is_only
+>>> smallest(1, 2, [([], 1), ([0], 0), ([0, 0], 1)])
+(1, 2, ((1,), (0,)), (1, 0))
+>>> is_only(1, 2, [([], 1), ([0], 0), ([0, 0], 1)])
+True
+>>> smallest(1, 2, [([], 1), ([0], 0)])
+(1, 2, ((1,), (0,)), (1, 0))
+>>> is_only(1, 2, [([], 1), ([0], 0)])
+False
+>>> smallest(2, 2, [([0], 1), ([1], 0)])
+(2, 2, ((1, 0), (0, 0)), (0, 1))
+
+>>> from maieutic.smallest import smallest
+>>> smallest(1, 2, [([0], 0), ([0], 1)])
+raises Broken
+"""
+
+CLASH = """
+>>> from maieutic.clash import clash_list, do_clash
+>>> do_clash([([], 1), ([0], 0), ([0, 0], 1)], [], [0])
+True
+>>> len(clash_list(1, 2, [([], 1), ([0], 0), ([0, 0], 1)]))
+2
+"""
+
 
 def steps_of(example):
     """The pairs of a line of code and the lines that are printed behind it."""
@@ -200,6 +239,15 @@ class Examples(unittest.TestCase):
 
     def test_home(self):
         self.run_examples(HOME)
+
+    def test_secret(self):
+        self.run_examples(SECRET)
+
+    def test_smallest(self):
+        self.run_examples(SMALLEST)
+
+    def test_clash(self):
+        self.run_examples(CLASH)
 
 
 class ReadMe(unittest.TestCase):

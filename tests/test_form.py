@@ -45,6 +45,25 @@ INTERFACE = {
     "suite": {"are_told": ["words", "first", "second"], "suite_words": ["machine", "extra"]},
     "blind": {"unused_moves": ["machine", "words"], "blind_machine": ["machine", "words"]},
     "home": {"homing_word": ["machine"], "state_at_end": ["machine", "word", "outputs"]},
+    "secret": {
+        "Secret": ["letters", "length"], "Secret.reply": ["word"], "Secret.left": [], "Secret.possible": [],
+        "Secret.pair": [],
+    },
+    "honest": {
+        "Honest": ["machine", "picks"], "Honest.reply": ["word"], "Honest.judge": ["proposal"],
+        "play": ["asker", "box"],
+    },
+    "smallest": {
+        "check_log": ["letters", "outs", "log"], "fits_log": ["machine", "log"],
+        "smallest": ["letters", "outs", "log"], "is_only": ["letters", "outs", "log"],
+    },
+    "clash": {
+        "beginnings": ["log"], "do_clash": ["log", "first", "second"], "clash_list": ["letters", "outs", "log"],
+    },
+    "logbook": {
+        "Logbook": ["letters", "outs"], "Logbook.note": ["word", "output"], "Logbook.log": [], "Logbook.machine": [],
+        "Logbook.is_settled": [],
+    },
 }
 
 BUILTINS = set("""len range enumerate zip min max sum abs sorted reversed int str bool list tuple dict set
