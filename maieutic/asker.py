@@ -1,8 +1,9 @@
 """The asker, which finds out the machine in a box."""
 
 from maieutic.errors import Broken, NotAllowed
-from maieutic.learner import Learner, Talk, check_numbers, is_output
-from maieutic.machines import MAX_WORD, is_word, output_after, word_order
+from maieutic.lead import Lead
+from maieutic.learner import Learner, WordTalk, check_numbers, is_output
+from maieutic.machines import MAX_WORD, is_word, word_order
 from maieutic.notation import word_digits
 
 MAX_KNOWN = 400
@@ -15,10 +16,10 @@ class Asker:
         check_numbers(letters, outs, most)
         told = _read_known(letters, outs, known)
         self._head = _head_text((letters, outs, most), told)
-        self._talk = Talk(letters, outs, told)
+        self._talk = WordTalk(letters, outs, told)
         self._learner = Learner(letters, outs, most)
-        self._shown = None
-        self._go_on()
+        self._lead = Lead(self._talk, self._learner)
+        self._lead.go_on()
 
     def step(self):
         """Return the present step."""
@@ -27,7 +28,7 @@ class Asker:
     def answer(self, output):
         """Take the output behind the asked word."""
         if self._talk.hear_answer(output) is not None:
-            self._go_on()
+            self._lead.go_on()
 
     def accept(self):
         """Take it that the proposed machine is right."""
@@ -36,8 +37,7 @@ class Asker:
     def show(self, word):
         """Take a word behind which the proposed machine is wrong."""
         if self._talk.hear_word(word):
-            self._shown = list(word)
-            self._go_on()
+            self._lead.go_on_from(word)
 
     def report(self):
         """Return the counts of asked words, their letters and proposals, and the longest shown length."""
@@ -50,32 +50,6 @@ class Asker:
     def image(self):
         """Return the text from which this asker can be begun anew."""
         return f"{self._head} {self._talk.replies_text()}"
-
-    def _go_on(self):
-        """Choose the next step."""
-        if self._shown is not None and not self._judge():
-            return
-        word = self._learner.wanted(self._talk.known)
-        if word is not None:
-            self._talk.ask(word)
-        elif self._learner.is_full():
-            self._talk.end(("full",))
-        else:
-            self._talk.propose(self._learner.proposal())
-
-    def _judge(self):
-        """Hold the shown word against the proposal; return False if that makes the next step."""
-        word = self._shown
-        output = self._talk.known.get(tuple(word))
-        if output is None:
-            self._talk.ask(word)
-            return False
-        if output == output_after(self._learner.proposal(), word):
-            self._talk.end(("broken", "shown"))
-            return False
-        self._shown = None
-        self._learner.see_wrong(word)
-        return True
 
 
 def _read_known(letters, outs, known):

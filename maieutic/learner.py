@@ -1,12 +1,13 @@
 """What the askers have in common: the search for states, and the talk with the caller."""
 
-from maieutic.errors import NotAllowed, Wrong
+from maieutic.errors import NotAllowed
 from maieutic.halving import Halving
 from maieutic.least import least
 from maieutic.machines import MAX_LETTERS, MAX_OUTS, MAX_SHOWN, MAX_STATES
-from maieutic.machines import is_word, walk, word_order
+from maieutic.machines import is_word, output_after, walk, word_order
 from maieutic.notation import word_digits
 from maieutic.table import Table
+from maieutic.talk import Talk
 
 
 def check_numbers(letters, outs, most):
@@ -62,6 +63,13 @@ class Learner:
         """Return the machine to propose, which is a least one; None if words are wanted first."""
         return self._least
 
+    def learn_from(self, word, output):
+        """Learn that the proposal is wrong behind a word with this output; return False if it is right."""
+        if output == output_after(self._least, word):
+            return False
+        self.see_wrong(word)
+        return True
+
     def see_wrong(self, word):
         """Learn that the proposal is wrong behind a word that is known."""
         self._least = None
@@ -115,73 +123,41 @@ class Learner:
         return None
 
 
-class Talk:
-    """The present step, and all that was told, asked, proposed and shown so far."""
+class WordTalk(Talk):
+    """A talk about words and outputs, with all replies as they stand in an image."""
 
     def __init__(self, letters, outs, told):
+        super().__init__(told)
         self._letters = letters
         self._outs = outs
-        self.known = {word: told[word] for word in told}
-        self._present = ("none",)
         self._replies = []
-        self._asked = 0
-        self._asked_letters = 0
-        self._proposed = 0
-        self._longest = 0
-
-    def present_step(self):
-        """Return the present step."""
-        if self._present[0] == "ask":
-            return ("ask", list(self._present[1]))
-        return self._present
-
-    def ask(self, word):
-        """Make it the present step to ask the word."""
-        self._present = ("ask", tuple(word))
-
-    def propose(self, machine):
-        """Make it the present step to propose the machine."""
-        self._proposed += 1
-        self._present = ("propose", machine)
-
-    def end(self, last):
-        """Make this last step the present one."""
-        self._present = last
 
     def hear_answer(self, output):
         """Take an answer; return the word that was asked, or None if the answer is no output."""
-        self._check_fit("ask")
+        self.check_fit("ask")
         if not is_output(output, self._outs):
             self._replies.append("!output")
             self.end(("broken", "output"))
             return None
-        word = self._present[1]
-        self.known[word] = output
-        self._asked += 1
-        self._asked_letters += len(word)
         self._replies.append(f"={output}")
-        return list(word)
+        return self.take_answer(output)
 
     def hear_accept(self, found):
         """Take an acceptance of the proposal; what was found is told from then on."""
-        self._check_fit("propose")
+        self.check_fit("propose")
         self._replies.append("+")
         self.end(("done", found))
 
     def hear_word(self, word):
         """Take a shown word; return False if it is not allowed."""
-        self._check_fit("propose")
+        self.check_fit("propose")
         if not is_word(word, self._letters, MAX_SHOWN):
             self._replies.append("!word")
             self.end(("broken", "word"))
             return False
-        self._longest = max(self._longest, len(word))
         self._replies.append("-" + word_digits(word))
+        self.take_shown(word)
         return True
-
-    def counts(self):
-        """Return how many words were asked, their letters, the proposals, and the longest shown length."""
-        return (self._asked, self._asked_letters, self._proposed, self._longest)
 
     def pairs(self):
         """Return the pairs of known words and their outputs, in the order of words."""
@@ -190,7 +166,3 @@ class Talk:
     def replies_text(self):
         """Return the line and the replies behind it, as they stand in an image."""
         return " ".join(["|"] + self._replies)
-
-    def _check_fit(self, kind):
-        if self._present[0] != kind:
-            raise Wrong(f"the present step is not {kind}")

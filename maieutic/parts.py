@@ -2,7 +2,7 @@
 
 from maieutic.beside import beside, own_parts
 from maieutic.errors import NotAllowed
-from maieutic.learner import Learner, Talk, check_numbers
+from maieutic.learner import Learner, WordTalk, check_numbers
 from maieutic.machines import MAX_LETTERS, MAX_OUTS, output_after
 
 
@@ -14,7 +14,7 @@ class PartsAsker:
         self._first_letters = letters[0]
         self._second_outs = outs[1]
         self._head = " ".join([str(number) for number in letters + outs + (most,)])
-        self._talk = Talk(letters[0] + letters[1], outs[0] * outs[1], {})
+        self._talk = WordTalk(letters[0] + letters[1], outs[0] * outs[1], {})
         self._learners = (Learner(letters[0], outs[0], most), Learner(letters[1], outs[1], most))
         self._told = ({}, {})
         self._shown = None

@@ -171,6 +171,58 @@ True
 2
 """
 
+FRACTIONS = """
+>>> from maieutic.fractions import fraction
+>>> fraction(6, -4)
+(-3, 2)
+
+>>> from maieutic.fractions import solve
+>>> solve([[(1, 1), (1, 1)], [(0, 1), (2, 1)]], [(3, 1), (4, 1)])
+[(3, 1), (1, 2)]
+"""
+
+WEIGH = """
+>>> from maieutic.weigh import rank_of, weight_of
+>>> one = (1, 1)
+>>> zero = (0, 1)
+>>> unit = ((one, zero), (zero, one))
+>>> ones = (2, (one, zero), (unit, ((one, one), (zero, one))), (zero, one))
+>>> weight_of(ones, [0, 1, 1, 0])
+(2, 1)
+>>> rank_of(ones)
+2
+"""
+
+WEIGHER = """
+>>> from maieutic.weigher import Weigher
+>>> Weigher(5, 1)
+raises NotAllowed
+
+>>> from maieutic.weigher import Weigher
+>>> Weigher(2, 3).step() == Weigher(2, 3).step()
+True
+"""
+
+TREES = """
+>>> from maieutic.trees import output_of_tree
+>>> values = ((0, 0, 1, 2), 2, ((0,), (1,), (1, 0), (0, 0, 0, 1)), (0, 1))
+>>> output_of_tree(values, [3, 1, 2, 0])
+1
+>>> output_of_tree(values, [3, 1])
+raises NotAllowed
+"""
+
+FIRST_TREES = """
+>>> from maieutic.first_trees import tree_difference
+>>> values = ((0, 0, 1, 2), 2, ((0,), (1,), (1, 0), (0, 0, 0, 1)), (0, 1))
+>>> tree_difference(values, ((0, 0, 1, 2), 2, ((0,), (1,), (1, 0), (0, 1, 1, 1)), (0, 1)))
+[3, 0, 1]
+
+>>> from maieutic.first_trees import least_tree_machine
+>>> least_tree_machine(((1, 0), 2, ((0, 0, 0), (2,)), (0, 1, 1)))
+((1, 0), 2, ((1, 1), (0,)), (1, 0))
+"""
+
 
 def steps_of(example):
     """The pairs of a line of code and the lines that are printed behind it."""
@@ -248,6 +300,21 @@ class Examples(unittest.TestCase):
 
     def test_clash(self):
         self.run_examples(CLASH)
+
+    def test_fractions(self):
+        self.run_examples(FRACTIONS)
+
+    def test_weigh(self):
+        self.run_examples(WEIGH)
+
+    def test_weigher(self):
+        self.run_examples(WEIGHER)
+
+    def test_trees(self):
+        self.run_examples(TREES)
+
+    def test_first_trees(self):
+        self.run_examples(FIRST_TREES)
 
 
 class ReadMe(unittest.TestCase):

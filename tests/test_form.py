@@ -2,6 +2,7 @@
 
 import ast
 import builtins
+import functools
 import importlib
 import inspect
 import io
@@ -64,10 +65,33 @@ INTERFACE = {
         "Logbook": ["letters", "outs"], "Logbook.note": ["word", "output"], "Logbook.log": [], "Logbook.machine": [],
         "Logbook.is_settled": [],
     },
+    "fractions": {
+        "fraction": ["numerator", "denominator"], "is_fraction": ["pair"], "plus": ["first", "second"],
+        "minus": ["first", "second"], "times": ["first", "second"], "over": ["first", "second"],
+        "solve": ["rows", "right"],
+    },
+    "weigh": {
+        "check_weighted": ["machine"], "weight_of": ["machine", "word"], "rank_of": ["machine"],
+        "weigh_alike": ["first", "second"], "weight_difference": ["first", "second"],
+    },
+    "weigher": {
+        "Weigher": ["letters", "most"], "Weigher.step": [], "Weigher.answer": ["weight"], "Weigher.accept": [],
+        "Weigher.show": ["word"], "Weigher.report": [],
+    },
+    "trees": {
+        "are_ranks": ["ranks"], "is_tree": ["ranks", "tree"], "check_tree_machine": ["machine"],
+        "state_of_tree": ["machine", "tree"], "output_of_tree": ["machine", "tree"],
+    },
+    "first_trees": {
+        "first_trees": ["machine"], "least_tree_machine": ["machine"], "tree_difference": ["first", "second"],
+    },
 }
 
+# The names that may be imported from Python's own library, which are only called.
+LIBRARY = {"math": ("gcd", "lcm")}
+
 BUILTINS = set("""len range enumerate zip min max sum abs sorted reversed int str bool list tuple dict set
-    isinstance ord repr any all divmod map iter next Exception ValueError TypeError KeyError IndexError LookupError
+    isinstance ord repr any all divmod map iter next super Exception ValueError TypeError KeyError IndexError LookupError
     ZeroDivisionError ArithmeticError OverflowError RuntimeError NotImplementedError""".split())
 
 METHODS = set("""append clear copy count endswith extend find get index insert isalnum isalpha isdigit islower isspace
@@ -86,6 +110,7 @@ STATEMENTS = (ast.Assign, ast.AugAssign, ast.If, ast.While, ast.For, ast.Return,
               ast.FunctionDef, ast.ClassDef)
 
 
+@functools.lru_cache(maxsize=None)
 def texts():
     found = {}
     for name in sorted(os.listdir(FOLDER)):
@@ -95,6 +120,7 @@ def texts():
     return found
 
 
+@functools.lru_cache(maxsize=None)
 def trees():
     return {name: ast.parse(text) for name, text in texts().items()}
 
@@ -187,6 +213,9 @@ class Imports(unittest.TestCase):
             self.assertEqual(nodes(tree, ast.Import), [])
             used = {node.id for node in nodes(tree, ast.Name)}
             for module, alias in imports_of(tree):
+                if module in LIBRARY:
+                    self.check_library(name, tree, module, alias)
+                    continue
                 self.assertRegex(module, r"\Amaieutic\.[a-z_]+\Z", name)
                 self.assertIsNone(alias.asname)
                 self.assertIn(alias.name, used, name)
@@ -195,8 +224,23 @@ class Imports(unittest.TestCase):
                 own += [node.targets[0].id for node in body if isinstance(node, ast.Assign)]
                 self.assertIn(alias.name, own, name)
 
+    def check_library(self, name, tree, module, alias):
+        """The name is called by its bare name, in functions, by position, and means nothing else."""
+        self.assertIn(alias.name, LIBRARY[module], name)
+        self.assertIsNone(alias.asname)
+        called = [node.func for node in nodes(tree, ast.Call) if isinstance(node.func, ast.Name)]
+        named = [node for node in nodes(tree, ast.Name) if node.id == alias.name]
+        self.assertGreater(len(named), 0, name)
+        for node in named:
+            self.assertIn(node, called, name)
+        for node in nodes(tree, ast.Call):
+            if isinstance(node.func, ast.Name) and node.func.id == alias.name:
+                self.assertEqual(node.keywords, [])
+                self.assertFalse([one for one in node.args if isinstance(one, ast.Starred)])
+
     def test_no_circles(self):
-        needs = {name[:-3]: {module[9:] for module, _ in imports_of(tree)} for name, tree in trees().items()}
+        needs = {name[:-3]: {module[9:] for module, _ in imports_of(tree) if module not in LIBRARY}
+                 for name, tree in trees().items()}
         while needs:
             free = [name for name, needed in needs.items() if not needed & set(needs)]
             self.assertNotEqual(free, [], needs)
@@ -261,6 +305,14 @@ class Code(unittest.TestCase):
                 stored = {one.attr for one in nodes(node, ast.Attribute) if isinstance(one.ctx, ast.Store)}
                 self.assertEqual(len(methods), len(set(methods)), name)
                 self.assertEqual(stored & set(methods), set(), name)
+
+    def test_no_method_is_an_attribute_elsewhere(self):
+        methods, stored = set(), set()
+        for tree in trees().values():
+            for node in nodes(tree, ast.ClassDef):
+                methods |= {one.name for one in nodes(node, ast.FunctionDef)}
+                stored |= {one.attr for one in nodes(node, ast.Attribute) if isinstance(one.ctx, ast.Store)}
+        self.assertEqual(methods & stored, set())
 
 
 if __name__ == "__main__":
