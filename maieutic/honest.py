@@ -94,12 +94,18 @@ def _afters(first, second, pair):
 
 def play(asker, box):
     """Let the asker find out the box, and return its last step."""
-    replies = 0
+    step = lead_on(asker, box)
+    if step[0] in ("ask", "propose"):
+        raise Wrong(f"there is no last step behind {MAX_STEPS} replies")
+    return step
+
+
+def lead_on(asker, box):
+    """Reply to the asker up to its last step, at most MAX_STEPS times; return its step then."""
     step = asker.step()
-    while step[0] in ("ask", "propose"):
-        if replies == MAX_STEPS:
-            raise Wrong(f"there is no last step behind {MAX_STEPS} replies")
-        replies += 1
+    for _ in range(MAX_STEPS):
+        if step[0] not in ("ask", "propose"):
+            return step
         _reply(asker, box, step)
         step = asker.step()
     return step

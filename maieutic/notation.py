@@ -74,11 +74,10 @@ def read_digits(text):
     return [int(sign) for sign in text]
 
 
-def read_number(text):
-    """Return the number of one or two digits that has this text."""
-    # No number in a text has more than two digits, so longer ones need no reading.
-    if not 1 <= len(text) <= 2 or not all(sign in DIGITS for sign in text):
+def read_number(text, longest=2):
+    """Return the number that has this text, of at most so many digits."""
+    if not 1 <= len(text) <= longest or not all(sign in DIGITS for sign in text):
         raise BadForm("a number is written in decimal digits")
-    if len(text) == 2 and text[0] == "0":
+    if len(text) > 1 and text[0] == "0":
         raise BadForm("a number has no leading zeros")
     return int(text)

@@ -85,6 +85,24 @@ INTERFACE = {
     "first_trees": {
         "first_trees": ["machine"], "least_tree_machine": ["machine"], "tree_difference": ["first", "second"],
     },
+    "tree_asker": {
+        "TreeAsker": ["ranks", "outs", "most"], "TreeAsker.step": [], "TreeAsker.answer": ["output"],
+        "TreeAsker.accept": [], "TreeAsker.show": ["tree"], "TreeAsker.report": [],
+    },
+    "doubt": {
+        "DoubtAsker": ["letters", "outs", "most", "wrong"], "DoubtAsker.step": [], "DoubtAsker.answer": ["output"],
+        "DoubtAsker.accept": [], "DoubtAsker.show": ["word"], "DoubtAsker.report": [],
+    },
+    "changed": {
+        "ChangedAsker": ["machine", "most"], "ChangedAsker.step": [], "ChangedAsker.answer": ["output"],
+        "ChangedAsker.accept": [], "ChangedAsker.show": ["word"], "ChangedAsker.report": [],
+    },
+    "tested": {
+        "TestedAsker": ["letters", "outs", "most"], "TestedAsker.step": [], "TestedAsker.answer": ["output"],
+        "TestedAsker.accept": [], "TestedAsker.show": ["word"], "TestedAsker.report": [],
+    },
+    "lines": {"read_command": ["line"]},
+    "desk": {"run_script": ["script"]},
 }
 
 # The names that may be imported from Python's own library, which are only called.
